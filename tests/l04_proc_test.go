@@ -1051,6 +1051,23 @@ func TestProcsAnswerAtEachArgument(t *testing.T) {
 	}
 }
 
+// askRoomBehind asks that nothing was written behind p and its expressions.
+func askRoomBehind(t *testing.T, p []impl.Step) {
+	t.Helper()
+	for _, s := range p[len(p):cap(p)] {
+		if !reflect.DeepEqual(s, impl.Step{}) {
+			t.Errorf("behind the process stands %v", s)
+		}
+	}
+	for _, s := range p {
+		for _, n := range append(slices.Clone(s.Cond[len(s.Cond):cap(s.Cond)]), s.Expr[len(s.Expr):cap(s.Expr)]...) {
+			if n != (impl.Node{}) {
+				t.Errorf("behind an expression stands %v", n)
+			}
+		}
+	}
+}
+
 // Promise 1: what is answered is new memory, and room behind an argument is not written to.
 func TestProcsAreNewMemory(t *testing.T) {
 	p := orderProc()
@@ -1073,18 +1090,7 @@ func TestProcsAreNewMemory(t *testing.T) {
 		roomy[i].Expr = append(make([]impl.Node, 0, 40), p[i].Expr...)
 	}
 	askProc(roomy, roomy)
-	for _, s := range roomy[len(roomy):cap(roomy)] {
-		if !reflect.DeepEqual(s, impl.Step{}) {
-			t.Errorf("behind the process stands %v", s)
-		}
-	}
-	for _, s := range roomy {
-		for _, n := range append(slices.Clone(s.Cond[len(s.Cond):cap(s.Cond)]), s.Expr[len(s.Expr):cap(s.Expr)]...) {
-			if n != (impl.Node{}) {
-				t.Errorf("behind an expression stands %v", n)
-			}
-		}
-	}
+	askRoomBehind(t, roomy)
 }
 
 // Promise 1: an answer hangs on the arguments alone, not on what was asked ahead of it.

@@ -990,18 +990,7 @@ func TestTreeOfIsNewMemory(t *testing.T) {
 		t.Errorf("the text %q is shared", text.Text)
 	}
 	impl.WriteProc(p)
-	for _, s := range p[len(p):cap(p)] {
-		if !reflect.DeepEqual(s, impl.Step{}) {
-			t.Errorf("behind the process stands %v", s)
-		}
-	}
-	for _, s := range p {
-		for _, n := range append(slices.Clone(s.Cond[len(s.Cond):cap(s.Cond)]), s.Expr[len(s.Expr):cap(s.Expr)]...) {
-			if n != (impl.Node{}) {
-				t.Errorf("behind an expression stands %v", n)
-			}
-		}
-	}
+	askRoomBehind(t, p)
 }
 
 // Promise 1: what TreeOf and WriteProc answer hangs on the process alone, not on what was asked ahead of it.

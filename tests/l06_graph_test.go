@@ -1154,18 +1154,7 @@ func TestGraphOfIsNewMemory(t *testing.T) {
 	if !impl.SameGraphs(second, want) || !impl.SameGraphs(impl.GraphOf(p).Graph, want) || !impl.SameProcs(p, sharedProc()) {
 		t.Error("the graph is shared")
 	}
-	for _, s := range p[len(p):cap(p)] {
-		if !reflect.DeepEqual(s, impl.Step{}) {
-			t.Errorf("behind the process stands %v", s)
-		}
-	}
-	for _, s := range p {
-		for _, n := range append(slices.Clone(s.Cond[len(s.Cond):cap(s.Cond)]), s.Expr[len(s.Expr):cap(s.Expr)]...) {
-			if n != (impl.Node{}) {
-				t.Errorf("behind an expression stands %v", n)
-			}
-		}
-	}
+	askRoomBehind(t, p)
 }
 
 // Promise 1: what is told of a graph is new memory, and room behind the graph is not written to.
