@@ -510,7 +510,7 @@ func slowGraphFault(g impl.Graph) int64 {
 	for _, n := range g.Nodes {
 		hasArg := slices.Contains([]int64{4, 5, 6, 11}, n.Kind)
 		switch {
-		case n.Kind < 1, n.Kind > 13, n.Kind != 3 && n.Name != "", !hasArg && n.Arg != 0, n.Kind != 6 && len(n.Expr) > 0:
+		case n.Kind < 1, n.Kind > 13, n.Kind <= 2 && n.Step != 0, n.Kind != 3 && n.Name != "", !hasArg && n.Arg != 0, n.Kind != 6 && len(n.Expr) > 0:
 			return impl.ErrForm
 		case n.Step < 0, n.Step > 23, n.Arg < 0, n.Arg > 99:
 			return impl.ErrRange
@@ -634,13 +634,50 @@ func TestGraphFaultOfWhatAKindHasNot(t *testing.T) {
 	}
 }
 
-// The Step is asked of each kind alike.
+// stepAt is a node of the kind that has no fault but for its Step.
+func stepAt(kind, step int64) impl.GNode {
+	n := nodeOf(kind)
+	n.Step = step
+	return n
+}
+
+// The Step has bounds; a start and an end have none, so that one is ErrForm within the bounds and outside them.
 func TestGraphFaultOfSteps(t *testing.T) {
 	for kind := int64(1); kind <= 13; kind++ {
-		for step, want := range map[int64]int64{0: 0, 1: 0, 22: 0, 23: 0, 24: impl.ErrRange, 25: impl.ErrRange, 60: impl.ErrRange, -1: impl.ErrRange, -23: impl.ErrRange, 1 << 32: impl.ErrRange, math.MaxInt64: impl.ErrRange, math.MinInt64: impl.ErrRange} {
-			n := nodeOf(kind)
-			n.Step = step
-			askNodeFault(t, "the kind "+strconv.FormatInt(kind, 10)+" of the Step "+strconv.FormatInt(step, 10), n, want)
+		for step, want := range map[int64]int64{0: 0, 1: 0, 2: 0, 22: 0, 23: 0, 24: impl.ErrRange, 25: impl.ErrRange, 60: impl.ErrRange, -1: impl.ErrRange, -23: impl.ErrRange, 1 << 32: impl.ErrRange, math.MaxInt64: impl.ErrRange, math.MinInt64: impl.ErrRange} {
+			if step != 0 && (kind == impl.GStart || kind == impl.GEnd) {
+				want = impl.ErrForm
+			}
+			askNodeFault(t, "the kind "+strconv.FormatInt(kind, 10)+" of the Step "+strconv.FormatInt(step, 10), stepAt(kind, step), want)
+		}
+	}
+}
+
+// A start and an end with a Step, beside what they have not either, too many elements, and the same of both.
+func TestGraphFaultOfStepsOfEnds(t *testing.T) {
+	for _, kind := range []int64{impl.GStart, impl.GEnd} {
+		for _, step := range []int64{0, 1, 23, 24, -1, math.MinInt64} {
+			why := "the kind " + strconv.FormatInt(kind, 10) + " of the Step " + strconv.FormatInt(step, 10)
+			askSeveral(stepAt(kind, step), []spoilt[impl.GNode]{
+				{impl.ErrForm, func(n *impl.GNode) { n.Name = "abcdefghi" }},
+				{impl.ErrForm, func(n *impl.GNode) { n.Arg = 100 }},
+				{impl.ErrForm, func(n *impl.GNode) { n.Expr = nots(17) }},
+			}, func(n impl.GNode, want int64) {
+				askNodeFault(t, why+" and more", n, want)
+			})
+			want := int64(impl.ErrForm)
+			if step == 0 {
+				want = 0
+			}
+			both, many, flows := lineOf(2), lineOf(61), lineOf(2)
+			both.Nodes[0], both.Nodes[1] = stepAt(impl.GStart, step), stepAt(impl.GEnd, step)
+			many.Nodes[60] = stepAt(kind, step)
+			flows.Nodes[1], flows.Flows = stepAt(kind, step), slices.Repeat(flows.Flows, 81)
+			askGraphFaults(t, []graphCase{
+				{"both ends of the Step " + strconv.FormatInt(step, 10), both, want},
+				{why + " among 61 nodes", many, impl.ErrMany},
+				{why + " and 81 flows", flows, impl.ErrMany},
+			})
 		}
 	}
 }
@@ -756,7 +793,6 @@ func TestGraphFaultOfSeveralInOneNode(t *testing.T) {
 		{impl.GWait, []spoilt[impl.GNode]{withName, withExpr, step, below}},
 		{impl.GTimer, []spoilt[impl.GNode]{withName, withExpr, step, below}},
 		{impl.GOpen, []spoilt[impl.GNode]{withName, withExpr, step, below}},
-		{impl.GStart, []spoilt[impl.GNode]{withName, withArg, withExpr, step}},
 		{impl.GMerge, []spoilt[impl.GNode]{withName, withArg, withExpr, step}},
 	} {
 		askSeveral(nodeOf(c.kind), c.faults, func(n impl.GNode, want int64) {
@@ -776,14 +812,18 @@ func TestGraphFaultOfSeveralInOneNode(t *testing.T) {
 
 // Node by node, then flow by flow: the first element that has a fault tells the code, whatever those behind it have.
 func TestGraphFaultOfSeveralInTwo(t *testing.T) {
-	nodes := []struct {
+	type nodeCase struct {
 		n    impl.GNode
 		want int64
-	}{
+	}
+	nodes := []nodeCase{
 		{impl.GNode{}, impl.ErrForm}, {impl.GNode{Kind: 14}, impl.ErrForm}, {impl.GNode{Kind: impl.GJoin, Arg: 1}, impl.ErrForm},
 		{impl.GNode{Kind: impl.GJoin, Step: 24}, impl.ErrRange}, {impl.GNode{Kind: impl.GOpen, Arg: 100}, impl.ErrRange},
 		{impl.GNode{Kind: impl.GSet, Expr: nots(17)}, impl.ErrMany},
 		{impl.GNode{Kind: impl.GTask, Name: "abcdefghi"}, impl.ErrMany}, {impl.GNode{Kind: impl.GTask}, impl.ErrText},
+	}
+	for _, step := range []int64{1, 23, 24, -1} {
+		nodes = append(nodes, nodeCase{stepAt(impl.GStart, step), impl.ErrForm}, nodeCase{stepAt(impl.GEnd, step), impl.ErrForm})
 	}
 	flows := []struct {
 		f    impl.Flow
@@ -800,6 +840,12 @@ func TestGraphFaultOfSeveralInTwo(t *testing.T) {
 			askGraphFaults(t, []graphCase{{"two nodes", g, a.want}})
 			g.Nodes[0], g.Nodes[1], g.Nodes[2], g.Nodes[3] = nodeOf(1), nodeOf(3), a.n, b.n
 			askGraphFaults(t, []graphCase{{"the last two nodes", g, a.want}})
+		}
+		for _, right := range []impl.GNode{nodeOf(impl.GStart), nodeOf(impl.GEnd), stepAt(impl.GTask, 23)} {
+			ahead, behind := lineOf(4), lineOf(4)
+			ahead.Nodes[1], ahead.Nodes[2] = right, a.n
+			behind.Nodes[1], behind.Nodes[2] = a.n, right
+			askGraphFaults(t, []graphCase{{"a node behind one without a fault", ahead, a.want}, {"a node ahead of one without a fault", behind, a.want}})
 		}
 		for _, b := range flows {
 			for _, at := range []int{0, 3} {
