@@ -1114,21 +1114,34 @@ func askGraph(p []impl.Step, g, other impl.Graph) []any {
 	return answers
 }
 
+// wildNumber is a small number, or any.
+func wildNumber(r *rand.Rand) int64 {
+	if r.Intn(2) == 0 {
+		return int64(r.Intn(15)) - 1
+	}
+	return int64(r.Uint64())
+}
+
+func wildExpr(r *rand.Rand) []impl.Node {
+	return []impl.Node{{Kind: wildNumber(r), Value: wildNumber(r), Left: wildNumber(r), Right: wildNumber(r)}}
+}
+
+// makeWild puts a node and a flow of any numbers into g.
+func makeWild(r *rand.Rand, g impl.Graph) {
+	if len(g.Nodes) > 0 && len(g.Flows) > 0 {
+		g.Nodes[r.Intn(len(g.Nodes))] = impl.GNode{Kind: wildNumber(r), Step: wildNumber(r), Arg: wildNumber(r), Expr: wildExpr(r)}
+		g.Flows[r.Intn(len(g.Flows))] = impl.Flow{From: wildNumber(r), To: wildNumber(r), Cond: wildExpr(r)}
+	}
+}
+
 // Promise 1: every function answers at every argument and changes none, with nothing beside a code.
 func TestGraphsAnswerAtEachArgument(t *testing.T) {
 	r := rand.New(rand.NewSource(44))
-	wild := func() int64 {
-		if r.Intn(2) == 0 {
-			return int64(r.Intn(15)) - 1
-		}
-		return int64(r.Uint64())
-	}
 	for i := range 5000 {
 		p := spoilProc(r, randomProc(r, 1+r.Intn(12)))
 		g := randomGraph(r)
-		if i%4 == 0 && len(g.Nodes) > 0 && len(g.Flows) > 0 {
-			g.Nodes[r.Intn(len(g.Nodes))] = impl.GNode{Kind: wild(), Step: wild(), Arg: wild(), Expr: []impl.Node{{Kind: wild(), Value: wild(), Left: wild(), Right: wild()}}}
-			g.Flows[r.Intn(len(g.Flows))] = impl.Flow{From: wild(), To: wild(), Cond: []impl.Node{{Kind: wild(), Value: wild(), Left: wild(), Right: wild()}}}
+		if i%4 == 0 {
+			makeWild(r, g)
 		}
 		other := spoilGraph(r, g)
 		beforeProc, before, beforeOther := cloneProc(p), cloneGraph(g), cloneGraph(other)
@@ -1162,6 +1175,49 @@ func sharedProc() []impl.Step {
 	return append(make([]impl.Step, 0, 40), xorAt(-1), ifSo(cond, setAt(0, 1, e)), ifSo(cond, setAt(0, 2, e)), ifSo(cond, task), task)
 }
 
+// askOwnLists asks that no two lists share memory: all of the room of each is overwritten by its number.
+func askOwnLists(t *testing.T, why string, lists [][]impl.Node) {
+	t.Helper()
+	for i, list := range lists {
+		for j := range list[:cap(list)] {
+			list[:cap(list)][j] = impl.Node{Kind: int64(100 + i)}
+		}
+	}
+	for i, list := range lists {
+		for _, n := range list[:cap(list)] {
+			if n.Kind != int64(100+i) {
+				t.Errorf("%s: the list %d is shared", why, i)
+			}
+		}
+	}
+}
+
+func listsOfGraph(g impl.Graph) [][]impl.Node {
+	var lists [][]impl.Node
+	for _, n := range g.Nodes {
+		lists = append(lists, n.Expr)
+	}
+	for _, f := range g.Flows {
+		lists = append(lists, f.Cond)
+	}
+	return lists
+}
+
+// askRoomBehindGraph asks that nothing was written behind the nodes and flows of g.
+func askRoomBehindGraph(t *testing.T, g impl.Graph) {
+	t.Helper()
+	for _, n := range g.Nodes[len(g.Nodes):cap(g.Nodes)] {
+		if !reflect.DeepEqual(n, impl.GNode{}) {
+			t.Errorf("behind the nodes stands %v", n)
+		}
+	}
+	for _, f := range g.Flows[len(g.Flows):cap(g.Flows)] {
+		if !reflect.DeepEqual(f, impl.Flow{}) {
+			t.Errorf("behind the flows stands %v", f)
+		}
+	}
+}
+
 // Promise 1: a graph is new memory, no two lists of it share any, and room behind an argument is not written to.
 func TestGraphOfIsNewMemory(t *testing.T) {
 	p := sharedProc()
@@ -1175,26 +1231,7 @@ func TestGraphOfIsNewMemory(t *testing.T) {
 			t.Errorf("the Name %q is shared", n.Name)
 		}
 	}
-	var lists [][]impl.Node
-	for i := range first.Nodes {
-		lists = append(lists, first.Nodes[i].Expr)
-	}
-	for i := range first.Flows {
-		lists = append(lists, first.Flows[i].Cond)
-	}
-	// All of the room of a list is overwritten by its number: what is shared has another one in the end.
-	for i, list := range lists {
-		for j := range list[:cap(list)] {
-			list[:cap(list)][j] = impl.Node{Kind: int64(100 + i)}
-		}
-	}
-	for i, list := range lists {
-		for _, n := range list[:cap(list)] {
-			if n.Kind != int64(100+i) {
-				t.Errorf("the list %d is shared", i)
-			}
-		}
-	}
+	askOwnLists(t, "GraphOf", listsOfGraph(first))
 	clear(first.Nodes[:cap(first.Nodes)])
 	clear(first.Flows[:cap(first.Flows)])
 	if !impl.SameGraphs(second, want) || !impl.SameGraphs(impl.GraphOf(p).Graph, want) || !impl.SameProcs(p, sharedProc()) {
@@ -1217,29 +1254,26 @@ func TestGraphAnswersAreNewMemory(t *testing.T) {
 		t.Errorf("two answers share a list: %v, %v", from, to)
 	}
 	askGraph(nil, g, g)
-	for _, n := range g.Nodes[len(g.Nodes):cap(g.Nodes)] {
-		if !reflect.DeepEqual(n, impl.GNode{}) {
-			t.Errorf("behind the nodes stands %v", n)
-		}
-	}
-	for _, f := range g.Flows[len(g.Flows):cap(g.Flows)] {
-		if !reflect.DeepEqual(f, impl.Flow{}) {
-			t.Errorf("behind the flows stands %v", f)
-		}
-	}
+	askRoomBehindGraph(t, g)
 }
 
-// Promise 1: an answer hangs on the arguments alone, not on what was asked ahead of it, nor on the order in which flows were kept.
-func TestGraphsHangOnArgumentsAlone(t *testing.T) {
-	r := rand.New(rand.NewSource(45))
+// procsAndGraphs are as many of both, with and without faults.
+func procsAndGraphs(r *rand.Rand) ([][]impl.Step, []impl.Graph) {
 	procs := [][]impl.Step{nil, seqOf(24), seqOf(25), nestOf(7), nestOf(8), orderProc(), fullGuards(), sharedProc()}
-	graphs := []impl.Graph{{}, lineOf(1), lineOf(2), lineOf(60), lineOf(61)}
+	graphs := []impl.Graph{{}, lineOf(1), lineOf(2), lineOf(24), lineOf(60), lineOf(61)}
 	for len(procs) < 120 {
 		procs = append(procs, randomProc(r, 1+r.Intn(24)), spoilProc(r, randomProc(r, 8)))
 	}
 	for len(graphs) < len(procs) {
 		graphs = append(graphs, randomGraph(r))
 	}
+	return procs, graphs
+}
+
+// Promise 1: an answer hangs on the arguments alone, not on what was asked ahead of it, nor on the order in which flows were kept.
+func TestGraphsHangOnArgumentsAlone(t *testing.T) {
+	r := rand.New(rand.NewSource(45))
+	procs, graphs := procsAndGraphs(r)
 	var first [][]any
 	for i, p := range procs {
 		first = append(first, askGraph(p, graphs[i], graphs[0]))
