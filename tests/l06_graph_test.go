@@ -203,8 +203,8 @@ func shiftProc(p []impl.Step, more int64) []impl.Step {
 	return p
 }
 
-// fullGuards is 11 guards and 12 tasks: the most nodes that 24 steps come to.
-func fullGuards() []impl.Step {
+// guardTree is n guards, one in the other, and tasks, as even as it comes.
+func guardTree(n int) []impl.Step {
 	p := proc(guardAt(-1, 1))
 	var fill func(parent int64, guards int)
 	fill = func(parent int64, guards int) {
@@ -218,8 +218,13 @@ func fullGuards() []impl.Step {
 			fill(at, part-1)
 		}
 	}
-	fill(0, 10)
+	fill(0, n-1)
 	return p
+}
+
+// fullGuards is 11 guards and 12 tasks: the most nodes that 24 steps come to.
+func fullGuards() []impl.Step {
+	return guardTree(11)
 }
 
 // ownNodes is how many nodes steps of a kind come to, those of their kids left out.
