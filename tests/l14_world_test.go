@@ -187,15 +187,11 @@ func slowWorldCall(w impl.World, x worldCall) impl.WorldResult {
 	}
 	lines, _ := slowLines(all[:len(w.Journal.Sure)+int(x.kept)])
 	got := slowReplay(w.Desk.Engine.Procs, lines)
-	if got.Reply != 0 {
-		got.World = cloneWorld(w)
-	} else {
-		got.World.Journal.Sure, got.World.Journal.Loose = got.World.Journal.Loose, nil
-	}
+	got.World.Journal.Sure, got.World.Journal.Loose = got.World.Journal.Loose, nil
 	return got
 }
 
-// askWorld asks what comes of a call against what is told once more, that the world stays as it was, and that what has a reply changes nothing.
+// askWorld asks what comes of a call against what is told once more, that the world stays as it was, and that a line that has a reply changes nothing.
 func askWorld(t *testing.T, w impl.World, x worldCall) impl.WorldResult {
 	t.Helper()
 	before := cloneWorld(w)
@@ -212,8 +208,11 @@ func askWorld(t *testing.T, w impl.World, x worldCall) impl.WorldResult {
 	if impl.WorldFault(got.World) != 0 {
 		t.Fatalf("%v of %s: %s has the fault %d", x, tellWorld(impl.WorldResult{World: w}), tellWorld(got), impl.WorldFault(got.World))
 	}
-	if got.Reply != 0 && (got.Value != 0 || !sameWorlds(got.World, before) || !impl.SameDesks(got.World.Desk, w.Desk)) {
+	if x.word == "do" && got.Reply != 0 && (got.Value != 0 || !sameWorlds(got.World, before) || !impl.SameDesks(got.World.Desk, w.Desk)) {
 		t.Fatalf("%v has the reply %d and changes the world", x, got.Reply)
+	}
+	if x.word != "do" && (got.Value != 0 || len(got.World.Journal.Loose) != 0) {
+		t.Fatalf("%v has the value %d, and not all is sure: %s", x, got.Value, tellWorld(got))
 	}
 	return got
 }
@@ -778,8 +777,8 @@ func (s worldStory) follow(t *testing.T, x worldCall, got impl.WorldResult, coun
 	last := s.were[len(s.were)-1]
 	switch {
 	case got.Reply != 0:
-		if !sameWorlds(got.World, last) {
-			t.Fatalf("%v has a reply, and another world", x)
+		if x.word != "do" || !sameWorlds(got.World, last) {
+			t.Fatalf("%v has the reply %d, and another world", x, got.Reply)
 		}
 		return s
 	case x.word == "do":
@@ -1246,9 +1245,25 @@ func TestReplayWorld(t *testing.T) {
 	}
 }
 
-// A journal of which the lines have a reply, or are no commands, or are too many, crashes to that code or reply.
+// crashDesks are desks of the process of commandWorld: with and without instances and claims.
+func crashDesks(t *testing.T) map[string]impl.Desk {
+	t.Helper()
+	fresh := newWorld(t, tasksBesideAll)
+	return map[string]impl.Desk{
+		"no instance":                  fresh.Desk,
+		"an instance":                  doneWorld(t, fresh, "start 0 4").Desk,
+		"an instance that failed":      doneWorld(t, fresh, "start 0 4", "drop 0").Desk,
+		"an instance and its claims":   doneWorld(t, fresh, "start 0 4", "claim 2 0 1", "claim 3 0 2").Desk,
+		"some instances, and a claim":  commandWorld(t).Desk,
+		"no instance, at another time": doneWorld(t, fresh, "tick 7").Desk,
+		"a claim of what goes on":      doneWorld(t, fresh, "start 0 4", "tick 5", "claim 9 0 2", "mail 0 1").Desk,
+		"all places taken":             doneWorld(t, fresh, slices.Repeat([]string{"start 0 0"}, impl.MaxInsts)...).Desk,
+	}
+}
+
+// A journal of which the lines have a reply, or are no commands, or are too many, crashes to that code or reply, whatever the desk was: behind a reply stands, all sure, what the lines ahead of it make.
 func TestCrashesOfOtherJournals(t *testing.T) {
-	base := commandWorld(t)
+	desks := crashDesks(t)
 	ticks := strings.Repeat(packs("tick 1"), 61)
 	for _, c := range []struct {
 		why, sure, loose string
@@ -1259,12 +1274,26 @@ func TestCrashesOfOtherJournals(t *testing.T) {
 		{"a sure line that is no command", packs("wink"), "", 0, "code 5"},
 		{"a loose line that is no command, kept", packs("start 0 4"), packs("wink"), 7, "code 5"},
 		{"a loose line that is no command, cut", packs("start 0 4"), packs("wink"), 6, "0 at 0: live | - | 0.1 0.2 | 1+0"},
-		{"a sure line with a reply", packs("drop 0"), "", 0, "reply 3: 0 at 1: live live | 0.1:1 | 0.2 1.1 1.2 | 1+0"},
-		{"a loose line with a reply, kept", packs("start 0 4"), packs("tick 1", "drop 1"), 18, "reply 3: 0 at 1: live live | 0.1:1 | 0.2 1.1 1.2 | 1+2"},
+		{"a sure line with a reply", packs("drop 0"), "", 0, "reply 3: 0 at 0: | - | - | 0+0"},
+		{"a sure line with a reply, and loose ones that are not kept", packs("drop 0"), packs("start 0 4", "tick 1"), 0, "reply 3: 0 at 0: | - | - | 0+0"},
+		{"a sure line with a reply, and loose ones that are kept", packs("drop 0"), packs("start 0 4", "tick 1"), 21, "reply 3: 0 at 0: | - | - | 0+0"},
+		{"a sure line with a reply behind one", packs("start 0 4", "drop 5"), "", 0, "reply 3: 0 at 0: live | - | 0.1 0.2 | 1+0"},
+		{"a sure line with a reply among others", packs("start 0 4", "drop 5", "tick 1"), "", 0, "reply 3: 0 at 0: live | - | 0.1 0.2 | 1+0"},
+		{"a sure line with a reply behind many", packs("start 0 4", "tick 3", "claim 2 0 1", "start 0 1", "mail 0 1", "done 2 0 1 5", "claim 3 1 1", "free 3 0 2", "tick 1"), packs("tick 2"), 9, "reply 10: 0 at 3: live live | 1.1:3 | 0.2 1.2 | 7+0"},
+		{"a sure line with a reply, all others ended", packs("start 0 4", "tick 2", "drop 0", "drop 0"), "", 0, "reply 9: 0 at 2: failed | - | - | 3+0"},
+		{"the one loose line, kept, has a reply", "", packs("drop 0"), 9, "reply 3: 0 at 0: | - | - | 0+0"},
+		{"the first loose line, kept, has a reply", "", packs("drop 0", "start 0 4"), 21, "reply 3: 0 at 0: | - | - | 0+0"},
+		{"a loose line, kept, has a reply behind a loose one", "", packs("start 0 4", "drop 5", "tick 1"), 30, "reply 3: 0 at 0: live | - | 0.1 0.2 | 1+0"},
+		{"a loose line, kept, has a reply behind a sure one", packs("start 0 4"), packs("drop 5", "tick 1"), 9, "reply 3: 0 at 0: live | - | 0.1 0.2 | 1+0"},
+		{"a loose line, kept, has a reply, the next one is cut", packs("start 0 4"), packs("drop 5", "tick 1"), 17, "reply 3: 0 at 0: live | - | 0.1 0.2 | 1+0"},
+		{"all loose lines, kept, one has a reply", packs("start 0 4"), packs("drop 5", "tick 1"), 18, "reply 3: 0 at 0: live | - | 0.1 0.2 | 1+0"},
+		{"a loose line with a reply, not kept", packs("start 0 4"), packs("drop 5", "tick 1"), 0, "0 at 0: live | - | 0.1 0.2 | 1+0"},
+		{"a loose line with a reply, kept", packs("start 0 4"), packs("tick 1", "drop 1"), 18, "reply 3: 0 at 1: live | - | 0.1 0.2 | 2+0"},
 		{"a loose line with a reply, cut", packs("start 0 4"), packs("tick 1", "drop 1"), 17, "0 at 1: live | - | 0.1 0.2 | 2+0"},
-		{"a reply ahead of no command", packs("drop 1", "wink"), "", 0, "reply 3: 0 at 1: live live | 0.1:1 | 0.2 1.1 1.2 | 2+0"},
+		{"a reply ahead of no command", packs("drop 1", "wink"), "", 0, "reply 3: 0 at 0: | - | - | 0+0"},
+		{"a reply ahead of a loose line that is no command", packs("tick 4", "drop 1"), packs("wink"), 7, "reply 3: 0 at 4: | - | - | 1+0"},
 		{"no command ahead of a reply", packs("wink", "drop 1"), "", 0, "code 5"},
-		{"a claim twice", packs("start 0 1", "claim 1 0 1", "claim 1 0 1"), packs("tick 1"), 9, "reply 6: 0 at 1: live live | 0.1:1 | 0.2 1.1 1.2 | 3+1"},
+		{"a claim twice", packs("start 0 1", "claim 1 0 1", "claim 1 0 1"), packs("tick 1"), 9, "reply 6: 0 at 0: live | 0.1:1 | 0.2 | 2+0"},
 		{"60 sure lines", ticks[:540], "", 0, "0 at 60: | - | - | 60+0"},
 		{"61 sure lines", ticks, "", 0, "code 2"},
 		{"60 lines, some loose", ticks[:90], ticks[:450], 450, "0 at 60: | - | - | 60+0"},
@@ -1273,17 +1302,103 @@ func TestCrashesOfOtherJournals(t *testing.T) {
 		{"61 lines, none of the loose ones kept", ticks[:90], ticks[:459], 0, "0 at 10: | - | - | 10+0"},
 		{"61 lines that are no commands", packs(slices.Repeat([]string{"a"}, 61)...), "", 0, "code 2"},
 		{"600 lines", packs(slices.Repeat([]string{"a"}, 600)...), "", 0, "code 2"},
-		{"60 lines, the first with a reply", packs("drop 0") + ticks[:531], "", 0, "reply 3: 0 at 1: live live | 0.1:1 | 0.2 1.1 1.2 | 60+0"},
+		{"60 lines, the first with a reply", packs("drop 0") + ticks[:531], "", 0, "reply 3: 0 at 0: | - | - | 0+0"},
+		{"60 lines, the last with a reply", ticks[:531] + packs("drop 0"), "", 0, "reply 3: 0 at 59: | - | - | 59+0"},
+		{"61 lines, the first with a reply", packs("drop 0") + ticks[:540], "", 0, "code 2"},
 		{"more blanks", packs(" start 0  4"), packs("claim 3 0 1   "), 17, "0 at 0: live | 0.1:3 | 0.2 | 2+0"},
 		{"one byte too many", packs("start 0 4"), packs("tick 1"), 10, "code 3"},
 		{"one byte too many, of no commands", packs("wink"), packs("a"), 5, "code 3"},
 		{"one byte too few, of no commands", packs("wink"), packs("a"), -1, "code 3"},
 	} {
-		w := impl.World{Desk: base.Desk, Journal: journalOf(c.sure, c.loose)}
-		if got := askWorld(t, w, crashKeeping(int64(c.kept))); tellWorld(got) != c.want {
-			t.Errorf("%s: %s, want %s", c.why, tellWorld(got), c.want)
+		for at, d := range desks {
+			w := impl.World{Desk: d, Journal: journalOf(c.sure, c.loose)}
+			got := askWorld(t, w, crashKeeping(int64(c.kept)))
+			if tellWorld(got) != c.want {
+				t.Errorf("%s, %s: %s, want %s", c.why, at, tellWorld(got), c.want)
+			}
+			if got.Reply != 0 {
+				askBehindReply(t, w, int64(c.kept), got)
+			}
 		}
 	}
+}
+
+// askBehindReply asks that a crash with a reply answers the world of the lines ahead of the one that has it, and that it goes on from there like each other one.
+func askBehindReply(t *testing.T, w impl.World, kept int64, got impl.WorldResult) {
+	t.Helper()
+	ahead := impl.NewWorld(w.Desk.Engine.Procs).World
+	lines, _ := slowLines(string(w.Journal.Sure) + string(w.Journal.Loose[:kept]))
+	var reply int64
+	for _, line := range lines {
+		next := impl.DoWorld(ahead, line)
+		if next.Reply != 0 {
+			reply = next.Reply
+			break
+		}
+		ahead = next.World
+	}
+	if got.Reply != reply || !sameWorlds(got.World, impl.SyncWorld(ahead).World) {
+		t.Fatalf("%d kept of %q: %s, want the reply %d and %s", kept, linesIn(w.Journal), tellWorld(got), reply, tellWorld(impl.WorldResult{World: ahead}))
+	}
+	askReplayed(t, got.World)
+	again := askWorld(t, got.World, crashKeeping(0))
+	if again.Code != 0 || again.Reply != 0 || !sameWorlds(again.World, got.World) {
+		t.Fatalf("%q: a second crash tells %s", linesIn(got.World.Journal), tellWorld(again))
+	}
+	if next := askWorld(t, got.World, doLine("tick 3")); next.Code == 0 && next.Reply == 0 {
+		askReplayed(t, next.World)
+	}
+}
+
+// Journals of lines of which some have a reply, cut wherever it may be, at desks that came of other lines.
+func TestCrashesToReplies(t *testing.T) {
+	rnd := rand.New(rand.NewSource(143))
+	count := map[string]int{}
+	for range 400 {
+		procs := deskProcs(t, rnd)
+		made, lines := impl.NewWorld(procs).World, []string{}
+		for range rnd.Intn(10) {
+			line := pickLine(rnd, made.Desk)
+			got := impl.DoWorld(made, line)
+			if got.Code == 0 {
+				lines = append(lines, line)
+			}
+			if got.Code == 0 && got.Reply == 0 {
+				made = got.World
+			}
+		}
+		sure := rnd.Intn(len(lines) + 1)
+		w := impl.World{Desk: made.Desk, Journal: journalOf(packs(lines[:sure]...), packs(lines[sure:]...))}
+		if rnd.Intn(3) == 0 {
+			w.Desk = impl.NewWorld(procs).World.Desk
+		}
+		kept := int64(rnd.Intn(len(w.Journal.Loose) + 1))
+		got := askWorld(t, w, crashKeeping(kept))
+		if got.Reply == 0 {
+			count["none"]++
+			continue
+		}
+		askBehindReply(t, w, kept, got)
+		for word, is := range map[string]bool{
+			"at the first line":   len(got.World.Journal.Sure) == 0,
+			"behind others":       len(got.World.Journal.Sure) > 0,
+			"in Sure":             len(got.World.Journal.Sure) < len(w.Journal.Sure),
+			"in Loose":            len(got.World.Journal.Sure) >= len(w.Journal.Sure),
+			"with claims":         len(w.Desk.Claims) > 0,
+			"with instances":      len(w.Desk.Engine.Insts) > 0,
+			"without instances":   len(w.Desk.Engine.Insts) == 0,
+			"to claims":           len(got.World.Desk.Claims) > 0,
+			"to fewer instances":  len(got.World.Desk.Engine.Insts) < len(w.Desk.Engine.Insts),
+			"not all bytes kept":  kept < int64(len(w.Journal.Loose)),
+			"a reply of a user":   got.Reply == impl.ErrUser,
+			"a reply of a number": got.Reply == impl.ErrRange,
+		} {
+			if is {
+				count[word]++
+			}
+		}
+	}
+	askCounts(t, count, 10, "none", "at the first line", "behind others", "in Sure", "in Loose", "with claims", "with instances", "without instances", "to claims", "to fewer instances", "not all bytes kept", "a reply of a user", "a reply of a number")
 }
 
 // A crash leaves the processes alone: what the desk has besides comes of the lines.
